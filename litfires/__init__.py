@@ -1,0 +1,1 @@
+"""Fires lit one by one: in how few turns all places burn, and by which places lit."""
