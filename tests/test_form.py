@@ -123,6 +123,23 @@ class Form(unittest.TestCase):
                 if isinstance(node, ast.Name) and node.id not in bound:
                     self.assertIn(node.id, BUILT_IN, (name, node.lineno))
 
+    def test_no_local_is_called_like_an_import_or_a_class(self):
+        for name, text, tree in self.trees():
+            taken = {alias.name for node in tree.body if isinstance(node, ast.ImportFrom) for alias in node.names}
+            taken |= {node.name for node in tree.body if isinstance(node, ast.ClassDef)}
+            for node in ast.walk(tree):
+                if isinstance(node, ast.FunctionDef):
+                    self.assertEqual(taken & set(bound_names(node)), set(), (name, node.name))
+
+    def test_what_is_walked_at_once_is_not_kept(self):
+        for name, text, tree in self.trees():
+            for node in ast.walk(tree):
+                if isinstance(node, (ast.Assign, ast.Return)) and isinstance(node.value, ast.Call):
+                    called = node.value.func
+                    word = called.id if isinstance(called, ast.Name) else called.attr
+                    walked = ("zip", "enumerate", "reversed", "range", "items", "keys", "values")
+                    self.assertNotIn(word, walked, (name, node.lineno))
+
     def test_methods_and_values(self):
         for name, text, tree in self.trees():
             for node in ast.walk(tree):

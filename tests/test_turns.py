@@ -1,11 +1,10 @@
-"""Point 3: turns and best; and what holds of them (a, b, d, e)."""
+"""Point 3: turns and best."""
 
 import unittest
-from itertools import combinations, product
+from itertools import combinations
 from math import isqrt
-from random import Random
 
-from plain import ask, burn, distances, first_of, how_many_parts, laid, last, plain_best
+from plain import ask, best_of, burn, distances, every_object, laid, last, plain_best, some_objects
 
 # By hand, from the words: the fewest turns and the row told.
 KNOWN = (
@@ -18,30 +17,6 @@ KNOWN = (
     ("two parts", 4, [(0, 1), (1, 2)], [1, 3]),
     ("two pairs", 4, [(0, 1), (2, 3)], [0, 2, 0]),
 )
-
-
-def every_object(size):
-    pairs = list(combinations(range(size), 2))
-    for count in range(len(pairs) + 1):
-        for joins in combinations(pairs, count):
-            yield joins
-
-
-def some_objects(seed, sizes, count):
-    random = Random(seed)
-    for _ in range(count):
-        size = random.choice(sizes)
-        thick = random.random()
-        pairs = combinations(range(size), 2)
-        yield size, tuple(pair for pair in pairs if random.random() < thick)
-
-
-def best_of(size, joins):
-    """What best tells, with turns telling the same number."""
-    turns, best = ask(*laid(size, joins), ("turns",), ("best",))[-2:]
-    if turns != best[:1] or len(best) != 1 + best[0]:
-        raise AssertionError(f"turns {turns}, best {best}")
-    return best[1:]
 
 
 class Known(unittest.TestCase):
@@ -157,52 +132,6 @@ class PlainSearch(unittest.TestCase):
                 wider |= {mask | ball for mask in masks}
             masks = wider
         return frozenset(range(size)) in masks
-
-
-class WhatHolds(unittest.TestCase):
-    def test_the_row_told_burns_all_when_it_is_lit(self):
-        for size, joins in some_objects(3, range(1, 10), 150):
-            row = best_of(size, joins)
-            answered = ask(*laid(size, joins), *[("light", p) for p in row], ("burns",), ("left",))
-            self.assertEqual(answered[-2:], [[size] + list(range(size)), [0]])
-            self.assertEqual(answered[-3], [size])
-
-    def test_no_shorter_row_burns_all(self):
-        for size, joins in some_objects(4, range(1, 8), 60):
-            turns = len(best_of(size, joins))
-            if size ** (turns - 1) <= 3000:
-                self.assertIsNone(first_of(size, joins, turns - 1))
-
-    def test_a_join_more_never_makes_it_longer(self):
-        for size, joins in some_objects(5, range(2, 10), 60):
-            turns = len(best_of(size, joins))
-            for pair in combinations(range(size), 2):
-                if pair not in joins:
-                    self.assertLessEqual(len(best_of(size, joins + (pair,))), turns)
-
-    def test_no_fewer_than_there_are_parts(self):
-        for size, joins in some_objects(6, range(1, 10), 200):
-            self.assertGreaterEqual(len(best_of(size, joins)), how_many_parts(size, joins))
-
-    def test_one_more_at_most_than_the_farthest_is_from_wherever_one_begins(self):
-        held = 0
-        for size, joins in some_objects(7, range(1, 10), 300):
-            if how_many_parts(size, joins) == 1:
-                held += 1
-                turns = len(best_of(size, joins))
-                for start in range(size):
-                    self.assertLessEqual(turns, 1 + max(distances(size, joins, start).values()))
-        self.assertGreater(held, 100)
-
-    def test_all_burns_just_if_each_lies_near_enough_to_one_lit(self):
-        for joins in every_object(3):
-            for row in product(range(3), repeat=3):
-                near = set()
-                for at, place in enumerate(row):
-                    far = distances(3, joins, place)
-                    near |= {p for p in far if far[p] <= 2 - at}
-                answered = last(*laid(3, joins), *[("light", p) for p in row])
-                self.assertEqual(answered, [len(near)], (joins, row))
 
 
 if __name__ == "__main__":
